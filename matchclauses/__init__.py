@@ -1,0 +1,1 @@
+"""Patterncheck: match clauses over algebraic data kinds. The calls are in matchclauses.desk."""
