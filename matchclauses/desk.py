@@ -1,21 +1,36 @@
 """The calls on one object, told in one list of numbers, and what they answer."""
 
-from matchclauses.patterns import ANYTHING, is_pattern, valued_kinds
+from matchclauses.choosing import answered_by, first_left, first_unasked, spots_of
+from matchclauses.patterns import ANYTHING, fits, is_pattern, is_value, valued_kinds
 from matchclauses.showing import shown_pattern
 
+FITS_NONE = -1
 NOT_THERE = -2
 NO_ROOM = -3
 NOT_NOW = -4
+
+ASKED_NEXT = 1
+CHOSEN = 2
+NOTHING_FITS = 3
 
 MOST_KINDS = 16
 MOST_CONSTRUCTORS = 16
 MOST_FIELDS = 4
 MOST_CLAUSES = 32
 MOST_NUMBERS = 64
+MOST_VALUE_NUMBERS = 1024
 
 
 class UnknownCall(ValueError):
     pass
+
+
+def counted(numbers):
+    return [len(numbers)] + list(numbers)
+
+
+def pattern_told(found):
+    return [0] if found is None else counted(found)
 
 
 class Desk:
@@ -73,8 +88,61 @@ class Desk:
     def missing(self):
         if self.matched is None:
             return [NOT_NOW]
-        found = shown_pattern(self.kinds, self.matched, self.clauses, (ANYTHING,))
-        return [0] if found is None else [len(found)] + list(found)
+        return pattern_told(shown_pattern(self.kinds, self.matched, self.clauses, (ANYTHING,)))
+
+    def what_comes_to(self, number):
+        return shown_pattern(self.kinds, self.matched, self.clauses[:number], self.clauses[number])
+
+    def reach(self, number):
+        if self.matched is None:
+            return [NOT_NOW]
+        if number >= len(self.clauses):
+            return [NOT_THERE]
+        return pattern_told(self.what_comes_to(number))
+
+    def which(self, value):
+        if self.matched is None:
+            return [NOT_NOW]
+        if len(value) > MOST_VALUE_NUMBERS:
+            return [NO_ROOM]
+        if not is_value(self.kinds, self.matched, value):
+            return [NOT_THERE]
+        for number, clause in enumerate(self.clauses):
+            if fits(self.kinds, self.matched, value, clause):
+                return [number]
+        return [FITS_NONE]
+
+    def choose(self, constructors):
+        if self.matched is None:
+            return [NOT_NOW]
+        clauses = [spots_of(self.kinds, self.matched, clause) for clause in self.clauses]
+        answered = answered_by(self.kinds, clauses, constructors)
+        if answered is None:
+            return [NOT_THERE]
+        number = first_left(clauses, answered)
+        if number is None:
+            return [NOTHING_FITS]
+        spot = first_unasked(clauses[number], answered)
+        return [CHOSEN, number] if spot is None else [ASKED_NEXT] + list(spot.way)
+
+    def useless(self):
+        if self.matched is None:
+            return [NOT_NOW]
+        return counted([number for number in range(len(self.clauses)) if self.what_comes_to(number) is None])
+
+    def drop(self, number):
+        if self.matched is None:
+            return [NOT_NOW]
+        if number >= len(self.clauses):
+            return [NOT_THERE]
+        self.clauses.pop(number)
+        return [len(self.clauses)]
+
+    def end(self):
+        if self.matched is None:
+            return [NOT_NOW]
+        self.matched = None
+        return [0]
 
 
 class Reader:
@@ -111,6 +179,18 @@ def answer_one(desk, reader):
         return desk.add_clause(reader.take_row())
     if call == 6:
         return desk.missing()
+    if call == 7:
+        return desk.reach(reader.take_number())
+    if call == 8:
+        return desk.which(reader.take_row())
+    if call == 9:
+        return desk.choose(reader.take_row())
+    if call == 10:
+        return desk.useless()
+    if call == 11:
+        return desk.drop(reader.take_number())
+    if call == 12:
+        return desk.end()
     raise UnknownCall(f"there is no call {call}")
 
 

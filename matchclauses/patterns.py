@@ -37,3 +37,32 @@ def is_pattern(kinds, kind, numbers):
         elif number != ANYTHING:
             return False
     return not waiting
+
+
+def is_value(kinds, kind, numbers):
+    return ANYTHING not in numbers and is_pattern(kinds, kind, numbers)
+
+
+# Where the value that begins at this place of the numbers has ended.
+def place_behind(kinds, kind, numbers, place):
+    waiting = [kind]
+    while waiting:
+        fields = kinds[waiting.pop()][numbers[place]]
+        waiting.extend(list(reversed(fields)))
+        place += 1
+    return place
+
+
+def fits(kinds, kind, value, pattern):
+    waiting = [kind]
+    place = 0
+    for number in pattern:
+        turn = waiting.pop()
+        if number == ANYTHING:
+            place = place_behind(kinds, turn, value, place)
+        elif value[place] == number:
+            waiting.extend(list(reversed(kinds[turn][number])))
+            place += 1
+        else:
+            return False
+    return True

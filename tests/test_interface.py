@@ -7,10 +7,28 @@ import sys
 import unittest
 
 from matchclauses.desk import UnknownCall, answers
-from support import FURTHEST, ask, begin, clause, con, has_value, joined, kind, missing, split_answers
+from support import (
+    FURTHEST, ask, begin, choose, clause, con, drop, end, has_value, joined, kind, missing, reach, split_answers,
+    useless, which,
+)
 
-EVERY_CALL = [1, 1, 2, 0, 0, 2, 0, 2, 1, 0, 2, 1, 0, 3, 0, 4, 0, 5, 1, 0, 6, 5, 3, 1, 255, 0, 6, 1, 5, 0]
-TOLD = [1, 0, 1, 1, 1, 0, 1, 1, 1, 0, 1, 1, 1, 0, 1, 0, 4, 3, 1, 255, 255, 1, 1, 6, 5, 1, 255, 1, 255, 255, 1, -4, 1, -2]
+EVERY_CALL = [
+    1, 1, 2, 0, 0, 2, 0, 2, 1, 0, 2, 1, 0, 3, 0, 4, 0, 5, 1, 0, 6, 5, 3, 1, 255, 0, 6, 1, 5, 0,
+    5, 1, 0, 7, 1, 7, 2, 7, 3, 8, 3, 1, 0, 0, 8, 5, 1, 0, 1, 0, 0, 8, 1, 255, 9, 0, 9, 1, 1, 9, 2, 1, 0, 9, 2, 1, 1,
+    9, 1, 2, 10, 11, 0, 11, 2, 10, 9, 0, 12, 12, 4, 1, 9, 0,
+]
+TOLD = [
+    1, 0, 1, 1, 1, 0, 1, 1, 1, 0, 1, 1, 1, 0, 1, 0, 4, 3, 1, 255, 255, 1, 1, 6, 5, 1, 255, 1, 255, 255, 1, -4, 1, -2,
+    1, 2, 4, 3, 1, 255, 0, 1, 0, 1, -2, 1, 1, 1, -1, 1, -2, 1, 1, 2, 1, 1, 2, 2, 1, 1, 3,
+    1, -2, 2, 1, 2, 1, 2, 1, -2, 1, 0, 1, 1, 1, 0, 1, -4, 1, 0, 1, 3,
+]
+
+
+# Which call may be refused how; which's -1, where a value fits none, stands among them.
+REFUSALS = [
+    (1, -4), (1, -3), (2, -4), (2, -2), (2, -3), (3, -2), (4, -4), (4, -2), (5, -4), (5, -3), (5, -2), (6, -4),
+    (7, -4), (7, -2), (8, -4), (8, -3), (8, -2), (8, -1), (9, -4), (9, -2), (10, -4), (11, -4), (11, -2), (12, -4),
+]
 
 
 class Unchanging(list):
@@ -35,18 +53,40 @@ class Interface(unittest.TestCase):
         self.assertEqual(answers([5, 0]), [1, -4])
         self.assertEqual(answers([5, 2, 1, 1]), [1, -4])
         self.assertEqual(answers([6]), [1, -4])
+        self.assertEqual(answers([7, 0]), [1, -4])
+        self.assertEqual(answers([8, 0]), [1, -4])
+        self.assertEqual(answers([8, 2, 1, 1]), [1, -4])
+        self.assertEqual(answers([9, 0]), [1, -4])
+        self.assertEqual(answers([9, 2, 1, 1]), [1, -4])
+        self.assertEqual(answers([10]), [1, -4])
+        self.assertEqual(answers([11, 0]), [1, -4])
+        self.assertEqual(answers([12]), [1, -4])
 
     def test_rows_of_full_length(self):
         self.assertEqual(answers([2, 0, 64] + [1] * 64 + [1]), [1, -2, 1, 0])
         self.assertEqual(answers([2, FURTHEST, 64] + [FURTHEST] * 64 + [1]), [1, -2, 1, 0])
         self.assertEqual(answers([5, 512] + [6] * 512 + [1]), [1, -4, 1, 0])
         self.assertEqual(answers([1, 4, 0, 5, 512] + [6] * 512 + [5, 1, 255]), [1, 0, 1, 0, 1, -3, 1, 0])
+        self.assertEqual(answers([8, 2048] + [6] * 2048 + [1]), [1, -4, 1, 0])
+        self.assertEqual(answers([1, 4, 0, 8, 2048] + [6] * 2048 + [5, 1, 255]), [1, 0, 1, 0, 1, -3, 1, 0])
+        self.assertEqual(answers([9, 256] + [6] * 256 + [1]), [1, -4, 1, 0])
+        self.assertEqual(answers([1, 4, 0, 9, 256] + [6] * 256 + [5, 1, 255]), [1, 0, 1, 0, 1, -2, 1, 0])
+
+    def test_empty_rows(self):
+        self.assertEqual(answers([1, 2, 0, 0, 4, 0, 5, 0, 8, 0, 9, 0, 6]),
+                         [1, 0, 1, 0, 1, 0, 1, -2, 1, -2, 1, 3, 2, 1, 255])
 
     def test_200_calls(self):
         self.assertEqual(answers([6] * 200), [1, -4] * 200)
         long = [1, 4, 0] + ([5, 148] + [255] * 148) * 198
         self.assertEqual(len(long), 29703)
         self.assertEqual(answers(long), [1, 0, 1, 0] + [1, -3] * 198)
+
+    def test_many_long_values(self):
+        value = [8, 1024] + [1] * 1023 + [0]
+        long = [1, 2, 0, 0, 2, 0, 1, 0, 4, 0, 5, 32] + [1] * 31 + [0] + [5, 1, 255] + value * 29
+        self.assertLessEqual(len(long), 30000)
+        self.assertEqual(answers(long)[-58:], [1, 1] * 29)
 
     def test_a_list_of_whole_numbers(self):
         told = answers(EVERY_CALL)
@@ -85,27 +125,30 @@ def some_call(draw):
     t = draw.choice([0, 0, 0, 1, 1, 2, 3, 16, FURTHEST])
     fields = [draw.choice([0, 0, 1, 1, 2, 9]) for field in range(draw.choice([0, 0, 1, 2, 3, 5]))]
     row = [draw.choice([0, 0, 1, 1, 2, 255, 255, 254]) for number in range(draw.choice([0, 1, 1, 1, 2, 3, 3, 30, 65]))]
+    value = row if draw.random() < 0.9 else row + [0] * 1025
     calls = [kind()] * 2 + [con(t, *fields)] * 6 + [has_value(t)] * 2 + [clause(*row)] * 6 + [missing()] * 2
-    return draw.choice(calls + [begin(t)] * draw.choice([0, 0, 0, 1]))
+    calls += [reach(t), which(*value), choose(*row), useless(), drop(t)] * 2
+    return draw.choice(calls + draw.choice([[], [], [begin(t), end()]]))
 
 
 class Refused(unittest.TestCase):
     def test_it_changes_nothing(self):
         # A fixed seed: the same calls each time.
         draw = random.Random(5)
-        seen = {-2: 0, -3: 0, -4: 0}
+        seen = {}
         for turn in range(400):
             calls = [kind()] * draw.choice([0, 1, 1, 2, 15]) + [con(0)] * draw.choice([0, 1, 15])
             calls += [some_call(draw) for number in range(draw.randint(1, 160))]
             told = ask(*calls)
-            for answer in told:
+            for call, answer in zip(calls, told):
                 if answer[0] < 0:
                     self.assertEqual(len(answer), 1)
-                    seen[answer[0]] += 1
-            taken = [(call, answer) for call, answer in zip(calls, told) if answer[0] >= 0]
+                    seen[call[0], answer[0]] = seen.get((call[0], answer[0]), 0) + 1
+            taken = [(call, answer) for call, answer in zip(calls, told) if answer[0] >= -1]
             again = split_answers(answers(joined([call for call, answer in taken])))
             self.assertEqual(again, [answer for call, answer in taken])
-        self.assertGreater(min(seen.values()), 100)
+        self.assertEqual(sorted(seen), sorted(REFUSALS))
+        self.assertGreater(min(seen.values()), 10)
 
     def test_the_same_call_is_refused_the_same_way(self):
         told = ask(kind(), con(0), con(1), con(1), begin(1), begin(1), begin(0), begin(0), begin(0),

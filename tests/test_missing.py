@@ -7,7 +7,7 @@ import unittest
 from matchclauses.desk import answers
 from support import (
     ANYTHING, ask, begin, clause, con, declared, fits, joined, kind, last, missing, missing_by_the_words,
-    missing_of, nested, some_clauses, some_kinds, split_answers, valued, values_of,
+    missing_of, nested, nested_calls, some_clauses, some_kinds, split_answers, valued, values_of,
 )
 
 BOOL = [[], []]
@@ -124,15 +124,6 @@ class Large(unittest.TestCase):
             sys.setrecursionlimit(limit)
         expected = [0] * 14 + [1] + [255] * 42
         self.assertEqual(split_answers(told)[-1], [len(expected)] + expected)
-
-
-def nested_calls():
-    depth = 0
-    frame = sys._getframe()
-    while frame is not None:
-        depth += 1
-        frame = frame.f_back
-    return depth
 
 
 class AgainstTheWords(unittest.TestCase):
